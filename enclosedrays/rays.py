@@ -167,3 +167,11 @@ def behind_part(light, part, line, p):
         return Light(point, mirrored(light.way, across, size, p), light.index, -light.sign)
     index = part.glass[line]
     return Light(point, bent(light, across, size, index, p), index, light.sign)
+
+
+def plane_point(light, far, p):
+    """The point in the plane that is far from the last vertex, toward greater z whatever mirrors there are."""
+    if has_zero(light.way.z):
+        raise Lost(LEFT_UNDECIDED)
+    share = outward(over(minus(far, light.point.z), light.way.z), p)  # T
+    return outward_sum(light.point, share, light.way, p)

@@ -19,7 +19,7 @@ class TooGreat(Exception):
 
 
 class Lost(Exception):
-    """The ray doesn't get through an element, or that is left open."""
+    """The ray doesn't get through an element or to a plane, or that is left open: at refuses it, -5."""
 
     def __init__(self, ending):
         Exception.__init__(self)

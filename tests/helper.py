@@ -5,6 +5,8 @@
   formulas with operators.
 - true_ray: the law itself ("At element i") in decimals of 200 digits, with neither
   intervals nor the formulas of the reckoning.
+
+reckon_at and true_at go on to a plane.
 """
 
 import math
@@ -12,7 +14,7 @@ import re
 from decimal import Decimal, getcontext
 from fractions import Fraction
 
-from enclosedrays.desk import trace
+from enclosedrays.desk import at, trace
 
 getcontext().prec = 200
 
@@ -43,6 +45,30 @@ class Told:
 
 def told(system, start, p, line=0):
     return Told(call(system, start, p, line))
+
+
+def call_at(system, start, z, p, line=0):
+    """at of plain texts; start is "x y u v"."""
+    numbers = [text(number) for number in start.split(" ")]
+    return at(line, p, text(system), *numbers, text(z))
+
+
+def said_at(system, start, z, p, line=0):
+    """What at tells, as a text."""
+    answer = call_at(system, start, z, p, line)
+    if answer[0] != len(answer) - 1:
+        raise ValueError(answer[:3])
+    return "".join(chr(byte) for byte in answer[1:])
+
+
+def told_at(system, start, z, p, line=0):
+    """What at tells: x's pair of fractions and y's; None if it answers -5."""
+    if call_at(system, start, z, p, line) == [-5]:
+        return None
+    ends = [Fraction(number) for number in said_at(system, start, z, p, line).split(" ")]
+    if len(ends) != 4:
+        raise ValueError(ends)
+    return [(ends[0], ends[1]), (ends[2], ends[3])]
 
 
 # The faults of a system's text.
@@ -390,6 +416,22 @@ def reckon(source, start, p, line=0):
     return rays, 0
 
 
+def reckon_at(source, start, z, p, line=0):
+    """What told_at is to give."""
+    rays, ending = reckon(source, start, p, line)
+    if ending != 0:
+        return None
+    reckoning = Reckoning(p)
+    point, d = reckoning.begin(*[Fraction(number) for number in start.split(" ")])
+    if rays:
+        spans = [Span(*pair) for pair in rays[-1]]
+        point, d = spans[:3], spans[3:]
+    if 0 in d[2]:
+        return None
+    T = reckoning.o((Fraction(z) - point[2]) / d[2])
+    return [(a.lo, a.hi) for a in reckoning.each([point[0] + T * d[0], point[1] + T * d[1]])]
+
+
 # The law itself.
 
 NEAR = Decimal(10) ** -90
@@ -468,12 +510,16 @@ def true_step(e, point, d, s, n, m):
     return spot, f
 
 
+def true_start(start):
+    x, y, u, v = [decimal(Fraction(number)) for number in start.split(" ")]
+    length = (1 + u * u + v * v).sqrt()
+    return [x, y, Decimal(0)], [u / length, v / length, 1 / length]
+
+
 def true_ray(source, start, line=0):
     """(rays, ending); of each ray six decimals. Unsure where a grazing ray can't be decided."""
     medium, elements = parts_of(source)
-    x, y, u, v = [decimal(Fraction(number)) for number in start.split(" ")]
-    length = (1 + u * u + v * v).sqrt()
-    point, d = [x, y, Decimal(0)], [u / length, v / length, 1 / length]
+    point, d = true_start(start)
     s = 1
     n = decimal(medium[line])
     rays = []
@@ -487,6 +533,19 @@ def true_ray(source, start, line=0):
         n = m
         s = -s if e.kind == "mirror" else s
     return rays, 0
+
+
+def true_at(source, start, z, line=0):
+    """x and y in the plane; None if the ray is lost. Unsure where it goes along the plane, too."""
+    rays, ending = true_ray(source, start, line)
+    if ending != 0:
+        return None
+    point, d = true_start(start)
+    if rays:
+        point, d = rays[-1][:3], rays[-1][3:]
+    above(d[2])
+    far = decimal(Fraction(z)) - point[2]
+    return [point[0] + far * d[0] / d[2], point[1] + far * d[1] / d[2]]
 
 
 # Systems and rays made up; made is a random.Random with a seed.
@@ -546,3 +605,32 @@ def made_start(made, wild):
     places = [made.choice(("0", signed(made, f"{made.randrange(60)}/{made.randrange(1, 20)}"))) for k in range(2)]
     slopes = [made.choice(("0", signed(made, f"{made.randrange(10)}/{made.randrange(1, 60)}"))) for k in range(2)]
     return " ".join(places + slopes)
+
+
+def made_plane(made, wild):
+    if wild and made.random() < 0.3:
+        return signed(made, wild_number(made))
+    return made.choice(("0", signed(made, f"{made.randrange(60)}/{made.randrange(1, 20)}")))
+
+
+# Systems whose intervals grow more and more; their numbers were sought so that the way's z comes near to 0.
+
+GREAT_P = 120
+GREAT_START = "-333333333333333333 0 1/3 0"
+AXIS_P = 200
+
+
+def great_system(stops, gap="1"):
+    """At GREAT_P x and z grow some 2^120 times at each stop; gap is the one before the first of these."""
+    source = "glass a:1,1,1;glass h:99999999999999999,1,1;start a;stop s after 999999999999999999;"
+    source += "surface q after 0 into h curve 99371515403644734/788027147 conic 1000000000;"
+    return source + "".join(f"stop s{k} after {1 if k else gap};" for k in range(stops))
+
+
+def axis_system(stops):
+    """At AXIS_P z grows some 2^99 times at each stop; x and y stay, of a ray along the axis."""
+    source = "glass a:1,1,1;glass g:99999999999999999/7,1,1;glass h:99999999/7,1,1;"
+    source += "glass i:891414642155580021/369741877747802,1,1;start a;"
+    for k, glass in enumerate("gghi"):
+        source += f"surface in{k} after 0 into {glass} flat;surface out{k} after 0 into a flat;"
+    return source + "".join(f"stop s{k} after 1;" for k in range(stops))

@@ -16,6 +16,9 @@ CALLS = (
 )
 
 
+PLANES = ("0", "-7/2", "12.25", "999999999999999999", "", "1/0")
+
+
 def lists_of(row):
     return [text(value) if isinstance(value, str) else value for value in row]
 
@@ -63,5 +66,61 @@ class Calls(unittest.TestCase):
         self.assertEqual(desk.trace(**named), desk.trace(*row))
 
     def test_long_texts_go_by_loops(self):
+        for call in (desk.trace, lambda *row: desk.at(*row, [48])):
+            self.long_texts(call)
+
+    def long_texts(self, call):
         for source in ("#" * 65536, "\n" * 65536, "#\n" * 32768, "glass " * 10922, "a" * 65536, "1" * 65536):
-            self.assertEqual(desk.trace(0, 20, text(source), [48], [48], [48], [48])[0], -3)
+            self.assertEqual(call(0, 20, text(source), [48], [48], [48], [48])[0], -3)
+
+
+class CallsOfAt(unittest.TestCase):
+    def rows(self):
+        return [row + (z,) for row in CALLS for z in PLANES]
+
+    def test_handed_in_stays_and_twice_is_the_same(self):
+        firsts = []
+        for row in self.rows():
+            handed = lists_of(row)
+            firsts.append(desk.at(*handed))
+            self.assertEqual(handed, lists_of(row))
+            self.assertEqual(desk.at(*handed), firsts[-1])
+        # In another order, with calls of trace and an answer spoiled in between.
+        for row, first in reversed(list(zip(self.rows(), firsts))):
+            desk.trace(*lists_of(row[:-1]))
+            again = desk.at(*lists_of(row))
+            self.assertEqual(again, first)
+            again.append(7)
+
+    def test_trace_is_not_touched(self):
+        for row in CALLS:
+            first = desk.trace(*lists_of(row))
+            desk.at(*lists_of(row + ("3",)))
+            self.assertEqual(desk.trace(*lists_of(row)), first)
+
+    def test_one_list_for_several_numbers(self):
+        number = text("1/4")
+        self.assertEqual(desk.at(0, 20, text(SYSTEM), number, number, number, number, number),
+                         desk.at(0, 20, text(SYSTEM), *[text("1/4") for k in range(5)]))
+        self.assertEqual(number, text("1/4"))
+
+    def test_lists_of_whole_numbers(self):
+        kinds = {}
+        for row in self.rows():
+            answer = desk.at(*lists_of(row))
+            self.assertIs(type(answer), list)
+            self.assertTrue(all(type(number) is int for number in answer))
+            kinds[min(answer[0], 0)] = True
+            if answer[0] >= 0:
+                self.assertEqual(answer[0], len(answer) - 1)
+                self.assertEqual(answer.count(32), 3)
+                self.assertTrue(all(0 <= byte <= 255 for byte in answer[1:]))
+            else:
+                self.assertEqual(len(answer), 3 if answer[0] == -3 else 1)
+        self.assertEqual(sorted(kinds), [-5, -3, -1, 0])
+
+    def test_arguments(self):
+        names = ["line", "p", "t", "x", "y", "u", "v", "z"]
+        self.assertEqual(list(inspect.signature(desk.at).parameters), names)
+        for row in self.rows():
+            self.assertEqual(desk.at(**dict(zip(names, lists_of(row)))), desk.at(*lists_of(row)))

@@ -5,7 +5,8 @@ import unittest
 from fractions import Fraction
 
 from enclosedrays.intervals import Interval, outward, over, root, square, times
-from tests.helper import Reckoning, Span, Unsure, made_start, made_system, reckon, told, true_ray
+from tests.helper import Reckoning, Span, Unsure, made_plane, made_start, made_system, reckon, reckon_at, told, told_at
+from tests.helper import true_at, true_ray
 
 TRUE_WITHIN = Fraction(1, 10 ** 90)
 FINENESSES = (0, 1, 2, 5, 12, 33, 100, 256)
@@ -98,6 +99,70 @@ class PromiseFour(unittest.TestCase):
             self.assertLess(width, Fraction(2 ** 20, 2 ** p))
             self.assertTrue(last is None or width < last)
             last = width
+
+
+def made_up_planes(seed, turns, wild):
+    made = random.Random(seed)
+    for turn in range(turns):
+        yield made_system(made, wild), made_start(made, wild), made_plane(made, wild), made.randrange(3)
+
+
+def true_place(system, start, z, line):
+    """x and y in the plane, None if the ray is lost; "unsure" if that can't be said."""
+    try:
+        return true_at(system, start, z, line)
+    except Unsure:
+        return "unsure"
+
+
+class AtThePlane(unittest.TestCase):
+    def test_to_the_last_bit(self):
+        told_whole = 0
+        for wild in (False, True):
+            for system, start, z, line in made_up_planes(6, 250, wild):
+                for p in FINENESSES:
+                    pairs = told_at(system, start, z, p, line)
+                    self.assertEqual(pairs, reckon_at(system, start, z, p, line), (system, start, z, p))
+                    told_whole += pairs is not None
+                    if told(system, start, p, line).ending != 0:
+                        self.assertIsNone(pairs)
+        self.assertGreater(told_whole, 400)
+
+    def test_the_ray_lies_in_what_is_told(self):
+        held = 0
+        for wild in (False, True):
+            for system, start, z, line in made_up_planes(7, 250, wild):
+                place = true_place(system, start, z, line)
+                if place == "unsure":
+                    continue
+                for p in FINENESSES:
+                    pairs = told_at(system, start, z, p, line)
+                    self.assertFalse(place is None and pairs is not None, (system, start, z, p))
+                    for pair, number in zip(pairs or [], place or []):
+                        self.assertLessEqual(pair[0], Fraction(number) + TRUE_WITHIN, (system, start, z, p))
+                        self.assertGreaterEqual(pair[1], Fraction(number) - TRUE_WITHIN, (system, start, z, p))
+                        held += 1
+        self.assertGreater(held, 800)
+
+    def test_finenesses_agree(self):
+        for system, start, z, line in made_up_planes(8, 200, False):
+            answers = [told_at(system, start, z, p, line) for p in FINENESSES]
+            answers = [answer for answer in answers if answer is not None]
+            for one in answers:
+                for other in answers:
+                    self.assertTrue(all(i[0] <= j[1] and j[0] <= i[1] for i, j in zip(one, other)), (system, start, z))
+
+    def test_told_whole_and_narrow(self):
+        whole = 0
+        for system, start, z, line in made_up_planes(9, 300, False):
+            place = true_place(system, start, z, line)
+            if place is None or place == "unsure":
+                continue
+            pairs = told_at(system, start, z, 256, line)
+            self.assertIsNotNone(pairs, (system, start, z))
+            self.assertLess(max(pair[1] - pair[0] for pair in pairs), Fraction(1, 2 ** 170), (system, start, z))
+            whole += 1
+        self.assertGreater(whole, 60)
 
 
 class Arithmetic(unittest.TestCase):
